@@ -16,7 +16,7 @@ PIN_MASK = 255
 def packed_lock(lock):
     together = 0
     for chosen in lock:
-        together = together << PIN_BITS | chosen
+        together = (together << PIN_BITS) | chosen
     return together
 
 
@@ -32,8 +32,10 @@ def widened(frame, part):
     """The lock that takes every depth at the pins where part has none."""
     lock = 0
     for pin in range(frame.pins):
-        chosen = part >> PIN_BITS * pin & PIN_MASK
-        lock = lock | (chosen if chosen else every_depth(frame)) << PIN_BITS * pin
+        place = PIN_BITS * pin
+        chosen = (part >> place) & PIN_MASK
+        taken = chosen if chosen else every_depth(frame)
+        lock = lock | (taken << place)
     return lock
 
 
