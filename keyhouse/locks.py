@@ -128,12 +128,37 @@ def answer_come(line):
     return line.house.come(person, doors)
 
 
+def answer_again(line):
+    return line.house.again(line.take_number())
+
+
+def answer_go(line):
+    return line.house.go(line.take_number())
+
+
+def answer_lost(line):
+    return line.house.lose(line.take_number())
+
+
+def answer_key(line):
+    return line.house.tell_key(line.take_number())
+
+
+def answer_door(line):
+    return line.house.tell_door(line.take_number())
+
+
 CALLS = {
     0: answer_opens,
     1: answer_many,
     2: answer_next,
     10: answer_start,
     11: answer_come,
+    12: answer_again,
+    13: answer_go,
+    14: answer_lost,
+    15: answer_key,
+    16: answer_door,
 }
 
 

@@ -20,6 +20,11 @@ def packed_lock(lock):
     return together
 
 
+def unpacked_lock(frame, together):
+    """The sets of a packed lock, the first pin's first."""
+    return [(together >> (PIN_BITS * behind)) & PIN_MASK for behind in range(frame.pins - 1, -1, -1)]
+
+
 def packed_key(key):
     return packed_lock([1 << depth for depth in key])
 

@@ -46,6 +46,33 @@ def come(person, doors):
     return [11, person, doors]
 
 
+def again(person):
+    return [12, person]
+
+
+def go(person):
+    return [13, person]
+
+
+def lost(person):
+    return [14, person]
+
+
+def key_of(person):
+    """The call key."""
+    return [15, person]
+
+
+def door_of(door):
+    """The call door."""
+    return [16, door]
+
+
+def look():
+    """Calls that tell all that can be told of a house, and change nothing."""
+    return [key_of(person) for person in range(32)] + [door_of(door) for door in range(32)]
+
+
 def split(told):
     """The answers, each by itself."""
     single = []
@@ -109,27 +136,109 @@ def in_order(persons, lost, pins):
     return True
 
 
+def six(numbers):
+    return list(numbers) + [0] * (6 - len(numbers))
+
+
 class PlainHouse:
+    """A house as the document tells it: what would be is tried, key by key."""
+
     def __init__(self, frame, lost=()):
         self.frame = frame
         self.persons = {}
-        self.lost = list(lost)
+        self.lost_keys = [list(key) for key in lost]
 
     def locks(self):
         return [door_lock(self.persons, self.frame[0], door) for door in range(32)]
+
+    def is_in_order(self):
+        return in_order(self.persons, self.lost_keys, self.frame[0])
+
+    def become(self, persons):
+        before = self.locks()
+        self.persons = persons
+        after = self.locks()
+        return sum(1 << door for door in range(32) if before[door] != after[door])
+
+    def with_first(self, person, doors, keys):
+        for key in keys:
+            there = dict(self.persons)
+            there[person] = (doors, key)
+            if in_order(there, self.lost_keys, self.frame[0]):
+                return [0] + six(key) + [self.become(there)]
+        return [-2]
+
+    def without(self, person):
+        return {other: held for other, held in self.persons.items() if other != person}
+
+    def refused(self, person):
+        if person > 31:
+            return [-22]
+        if person not in self.persons:
+            return [-3]
+        return None
 
     def come(self, person, doors):
         if person > 31:
             return [-22]
         if person in self.persons:
             return [-17]
-        for key in all_keys(self.frame):
-            there = dict(self.persons)
-            there[person] = (doors, key)
-            if in_order(there, self.lost, self.frame[0]):
-                before = self.locks()
-                self.persons = there
-                after = self.locks()
-                changed = sum(1 << door for door in range(32) if before[door] != after[door])
-                return [0] + key + [0] * (6 - len(key)) + [changed]
-        return [-2]
+        return self.with_first(person, doors, all_keys(self.frame))
+
+    def again(self, person):
+        if self.refused(person):
+            return self.refused(person)
+        doors, old = self.persons[person]
+        return self.with_first(person, doors, (key for key in all_keys(self.frame) if key != old))
+
+    def go(self, person):
+        return self.refused(person) or [0, self.become(self.without(person))]
+
+    def lost(self, person):
+        if self.refused(person):
+            return self.refused(person)
+        if len(self.lost_keys) == 64:
+            return [-28]
+        doors, key = self.persons[person]
+        if not in_order(self.without(person), self.lost_keys + [key], self.frame[0]):
+            return [-33]
+        self.lost_keys.append(key)
+        return [0, self.become(self.without(person))]
+
+    def key(self, person):
+        if self.refused(person):
+            return self.refused(person)
+        doors, key = self.persons[person]
+        return [0] + six(key) + [doors]
+
+    def door(self, door):
+        return [-22] if door > 31 else [0] + six(self.locks()[door])
+
+    def answer(self, call):
+        names = {11: "come", 12: "again", 13: "go", 14: "lost", 15: "key", 16: "door"}
+        return getattr(self, names[call[0]])(*call[1:])
+
+
+def plain_answers(calls):
+    """What the document asks for calls of part 2 with frames as told, each by itself."""
+    told = []
+    house = None
+    for call in calls:
+        if call[0] == 10:
+            house = PlainHouse(tuple(call[1:]))
+            told.append([0])
+        else:
+            told.append(house.answer(call))
+    return told
+
+
+def random_call(source, persons, width, losses=2):
+    """A call of part 2 but start, about few persons so that they're often there.
+
+    losses tells how often it is lost: where keys are few, too many leave none.
+    """
+    kind = source.choices([11, 12, 13, 14, 15, 16], [9, 5, 3, losses, 1, 2])[0]
+    if kind == 16:
+        return [kind, source.choice([source.randrange(32), 32, ALL_DOORS, source.randrange(width), 0])]
+    person = source.choice([32, ALL_DOORS]) if source.random() < 0.03 else source.randrange(persons)
+    return [kind, person] + ([source.getrandbits(width)] if kind == 11 else [])

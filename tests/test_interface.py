@@ -4,7 +4,7 @@ import random
 import unittest
 
 from keyhouse.locks import answers
-from tests.helper import ask, come, following, many, opens, start
+from tests.helper import again, ask, come, door_of, following, go, key_of, lost, many, opens, random_call, start
 
 MIXED = [
     many((3, 4, 1), [15, 15, 15]),
@@ -18,6 +18,19 @@ MIXED = [
     come(1, 3),
     following((2, 2, 1), [[1, 1]], [[1, 1]]),
     come(32, 1),
+    again(0),
+    door_of(0),
+    many((2, 2, 1), [4, 0]),
+    lost(1),
+    key_of(0),
+    key_of(1),
+    come(1, 2),
+    go(0),
+    go(0),
+    door_of(32),
+    lost(31),
+    again(1),
+    again(1),
 ]
 
 MIXED_ANSWERS = [
@@ -32,6 +45,19 @@ MIXED_ANSWERS = [
     8, 0, 0, 1, 0, 0, 0, 0, 3,
     1, 0,
     1, -22,
+    8, 0, 1, 0, 0, 0, 0, 0, 1,
+    7, 0, 3, 3, 0, 0, 0, 0,
+    1, -71,
+    2, 0, 3,
+    8, 0, 1, 0, 0, 0, 0, 0, 1,
+    1, -3,
+    8, 0, 0, 0, 0, 0, 0, 0, 2,
+    2, 0, 1,
+    1, -3,
+    1, -22,
+    1, -3,
+    8, 0, 1, 0, 0, 0, 0, 0, 2,
+    8, 0, 0, 0, 0, 0, 0, 0, 2,
 ]
 
 
@@ -47,6 +73,17 @@ class Interface(unittest.TestCase):
         self.assertEqual(answers([2, 2, 3, 1, 2, 0, 0, 0, 0]), [1, 0])
         self.assertEqual(answers([10, 2, 3, 1]), [1, 0])
         self.assertEqual(answers([10, 2, 3, 1, 11, 7, 9]), [1, 0, 8, 0, 0, 0, 0, 0, 0, 0, 9])
+        there = [10, 2, 3, 1, 11, 7, 9]
+        told = [1, 0, 8, 0, 0, 0, 0, 0, 0, 0, 9]
+        self.assertEqual(answers(there + [12, 7]), told + [8, 0, 0, 1, 0, 0, 0, 0, 9])
+        self.assertEqual(answers(there + [13, 7]), told + [2, 0, 9])
+        self.assertEqual(answers(there + [14, 7]), told + [2, 0, 9])
+        self.assertEqual(answers(there + [15, 7]), told + [8, 0, 0, 0, 0, 0, 0, 0, 9])
+        self.assertEqual(answers(there + [16, 3]), told + [7, 0, 1, 1, 0, 0, 0, 0])
+        for number in range(12, 16):
+            self.assertEqual(answers(there + [number, 32]), told + [1, -22])
+            self.assertEqual(answers(there + [number, 6]), told + [1, -3])
+        self.assertEqual(answers(there + [16, 32]), told + [1, -22])
 
     def test_lists_are_empty_where_the_frame_is_not_as_told(self):
         self.assertEqual(answers([0, 0, 3, 1, 0, 0]), [1, -22])
@@ -80,14 +117,15 @@ class Interface(unittest.TestCase):
 
     def test_nothing_is_kept_from_one_time_to_the_next(self):
         calls = start((2, 2, 0)) + come(0, 1) + come(1, 2) + come(2, 0)
-        expected = [1, 0, 8, 0, 0, 0, 0, 0, 0, 0, 1, 8, 0, 1, 1, 0, 0, 0, 0, 2, 1, -2]
+        calls += lost(1) + come(1, 2)
+        expected = [1, 0, 8, 0, 0, 0, 0, 0, 0, 0, 1, 8, 0, 1, 1, 0, 0, 0, 0, 2, 1, -2, 2, 0, 2, 1, -2]
         for turn in range(3):
             self.assertEqual(answers(calls), expected)
             self.assertEqual(answers(sum(MIXED, [])), MIXED_ANSWERS)
 
     def test_part_1_changes_nothing_of_the_house(self):
         source = random.Random(13)
-        house = [start((2, 3, 1))] + [come(source.randrange(34), source.randrange(8)) for call in range(30)]
+        house = [start((2, 3, 1))] + [random_call(source, 6, 3, 1) for call in range(60)]
         other = [opens((3, 8, 2), [255] * 3, [7, 7, 7]), many((6, 8, 7), [255] * 6), following((2, 2, 0)), many((0, 0, 0))]
         mixed = []
         for call in house:

@@ -34,6 +34,13 @@ METHODS = set(
     " rsplit rstrip setdefault split splitlines startswith strip update upper values zfill bit_length".split()
 )
 
+WALKED = set("zip enumerate reversed range items keys values".split())
+WALKERS = set("list tuple dict sorted sum any all enumerate zip".split())
+
+
+def called(call):
+    return getattr(call.func, "id", getattr(call.func, "attr", None))
+
 
 def files():
     return sorted(name for name in os.listdir(FOLDER) if name != "__pycache__")
@@ -110,6 +117,29 @@ class Language(unittest.TestCase):
             for node in ast.walk(tree_of(name)):
                 if isinstance(node, ast.Call) and isinstance(node.func, ast.Attribute):
                     self.assertIn(node.func.attr, METHODS | own, (name, node.lineno))
+
+    def test_no_name_is_a_method_and_a_value(self):
+        methods = set()
+        values = set()
+        for name in files():
+            for node in ast.walk(tree_of(name)):
+                if isinstance(node, ast.ClassDef):
+                    methods |= {part.name for part in node.body if isinstance(part, ast.FunctionDef)}
+                if isinstance(node, ast.Attribute) and isinstance(node.ctx, ast.Store):
+                    values.add(node.attr)
+        self.assertFalse(methods & values)
+
+    def test_what_is_walked_is_not_kept(self):
+        for name in files():
+            walked = set()
+            for node in ast.walk(tree_of(name)):
+                if isinstance(node, (ast.For, ast.comprehension)):
+                    walked.add(ast.dump(node.iter, include_attributes=True))
+                if isinstance(node, ast.Call) and isinstance(node.func, ast.Name) and node.func.id in WALKERS:
+                    walked.add(ast.dump(node.args[0], include_attributes=True))
+            for node in ast.walk(tree_of(name)):
+                if isinstance(node, ast.Call) and called(node) in WALKED:
+                    self.assertIn(ast.dump(node, include_attributes=True), walked, (name, node.lineno))
 
     def test_imports(self):
         modules = {"keyhouse." + name[:-3]: name for name in files()}
